@@ -1,0 +1,1 @@
+"""Plainglass: JSON texts, whole."""
