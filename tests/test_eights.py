@@ -247,6 +247,12 @@ class Faults(Case):
                 self.assert_as_defined([first, *rest])
                 self.assert_as_defined([65, first, *rest])
 
+    def test_numbers_that_are_no_bytes(self):
+        for number in (-1, 256, -128, 320, 1000):
+            self.assert_fault([number], 0)
+            self.assert_fault([65, number, 65], 1)
+            self.assert_fault([195, number], 1)
+
     def test_longest_rows(self):
         self.assertEqual(points([65] * 4000), [65] * 4000)
         self.assert_fault([65] * 3999 + [255], 3999)
