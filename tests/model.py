@@ -277,3 +277,53 @@ def short_rows(signs, longest):
     for size in range(longest + 1):
         for row in itertools.product(signs, repeat=size):
             yield bytes(row)
+
+
+# A value with the first member of each name alone.
+def cleaned(thing):
+    if not isinstance(thing, tuple) or thing[0] not in ("row", "fields"):
+        return thing
+    if thing[0] == "row":
+        return "row", tuple([cleaned(value) for value in thing[1]])
+    members = {}
+    for name, value in thing[1]:
+        members.setdefault(name, cleaned(value))
+    return "fields", tuple(members.items())
+
+
+# A value with its members in the order of their names, so that alike clean values are the same.
+def ordered(thing, backwards=False):
+    if not isinstance(thing, tuple) or thing[0] not in ("row", "fields"):
+        return thing
+    if thing[0] == "row":
+        return "row", tuple([ordered(value, backwards) for value in thing[1]])
+    members = [(name, ordered(value, backwards)) for name, value in thing[1]]
+    return "fields", tuple(sorted(members, key=lambda member: member[0], reverse=backwards))
+
+
+def made_values(count, seed=1, depth=4):
+    return [value_of(text) for text in made_texts(count, seed, depth)]
+
+
+def made_clean_values(count, seed=1, depth=4):
+    return [cleaned(value) for value in made_values(count, seed, depth)]
+
+
+# Each value in a value, with the parts that lead there; where a name comes twice, the first alone.
+def places(thing, parts=()):
+    yield parts, thing
+    if isinstance(thing, tuple) and thing[0] == "row":
+        for k, value in enumerate(thing[1]):
+            yield from places(value, parts + (tuple(b"%d" % k),))
+    if isinstance(thing, tuple) and thing[0] == "fields":
+        for k, (name, value) in enumerate(thing[1]):
+            if name not in [other for other, old in thing[1][:k]]:
+                yield from places(value, parts + (name,))
+
+
+# Values within one another: so many rows, so many fields, or the two in turns, round a value.
+def nested(count, kinds, within):
+    for turn in range(count):
+        kind = kinds[turn % len(kinds)]
+        within = (kind, (within,)) if kind == "row" else (kind, (((97,), within),))
+    return within
