@@ -59,6 +59,10 @@ class Walk:
     def brackets(self):
         return len([item for item in self.coming if item in UNENDED])
 
+    # Whether what was taken is a JSON text with which no value goes on: white bytes alone are to come.
+    def is_ended(self):
+        return self.coming == ["white"]
+
     # Whether what was taken is a JSON text as it stands.
     def is_whole(self):
         return all([item in LOOSE for item in self.coming])

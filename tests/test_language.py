@@ -29,6 +29,13 @@ BANNED_WORDS = re.compile(r"\b(type|typing|typing_extensions|enum|Enum|IntEnum|S
 BANNED_VALUES = set("items keys values pop update append clear extend insert remove reverse setdefault sort args encode "
                     "format".split())
 
+# What is walked at once, and the calls that walk it.
+WALKED = set("zip enumerate reversed range items keys values".split())
+WALKERS = set("list tuple dict sorted sum any all enumerate zip min max".split())
+PLAIN_EXCEPT = set("KeyError ZeroDivisionError StopIteration".split())
+KEYWORDS = {"sorted": {"key", "reverse"}, "min": {"key", "default"}, "max": {"key", "default"}, "sum": {"start"}, "enumerate": {"start"},
+            "zip": {"strict"}}
+
 NODES = (
     ast.Module, ast.FunctionDef, ast.ClassDef, ast.ImportFrom, ast.alias, ast.arguments, ast.arg, ast.Lambda,
     ast.Assign, ast.AugAssign, ast.If, ast.While, ast.For, ast.Return, ast.Break, ast.Continue, ast.Pass, ast.Raise,
@@ -168,6 +175,50 @@ def check_methods(tree, methods):
                 yield "L25", node.lineno
 
 
+def called(node):
+    if not isinstance(node, ast.Call):
+        return None
+    return node.func.id if isinstance(node.func, ast.Name) else getattr(node.func, "attr", None)
+
+
+# Each node with the one right round it.
+def pairs(tree):
+    for around in ast.walk(tree):
+        for node in ast.iter_child_nodes(around):
+            yield around, node
+
+
+def check_walked(tree):
+    for around, node in pairs(tree):
+        if called(node) in WALKED:
+            looped = isinstance(around, (ast.For, ast.comprehension)) and around.iter is node
+            handed = called(around) in WALKERS and isinstance(around.func, ast.Name) and around.args[0] is node
+            if not looped and not handed:
+                yield "L23", node.lineno
+        if called(node) in ("set", "frozenset") or isinstance(node, ast.Set):
+            if called(around) not in ("sorted", "len") and not isinstance(around, (ast.Compare, ast.BinOp)):
+                yield "L24", node.lineno
+        if isinstance(node, ast.Name) and node.id in CALLED - {"int", "str", "bool", "list", "tuple", "dict"}:
+            if not (isinstance(around, ast.Call) and around.func is node):
+                yield "L22", node.lineno
+
+
+def check_calls(tree):
+    for node in ast.walk(tree):
+        if isinstance(node, ast.Call) and isinstance(node.func, ast.Name) and node.func.id in CALLED:
+            if {keyword.arg for keyword in node.keywords} - KEYWORDS.get(node.func.id, set()):
+                yield "L22", node.lineno
+        if isinstance(node, (ast.Assign, ast.AugAssign)):
+            target = node.target if isinstance(node, ast.AugAssign) else node.targets[0]
+            if isinstance(target, (ast.Tuple, ast.List)):
+                yield "L6", node.lineno
+        if isinstance(node, ast.ExceptHandler):
+            if not isinstance(node.type, ast.Name) or node.type.id in ERRORS - PLAIN_EXCEPT:
+                yield "L19", node.lineno
+        if isinstance(node, ast.Raise) and not isinstance(node.exc, ast.Call):
+            yield "L19", node.lineno
+
+
 def own_methods(trees):
     return {inner.name for tree in trees for node in tree.body if isinstance(node, ast.ClassDef)
             for inner in node.body if isinstance(inner, ast.FunctionDef)}
@@ -181,6 +232,8 @@ def check(text, methods):
     yield from check_defs(tree)
     yield from check_names(tree)
     yield from check_methods(tree, methods)
+    yield from check_walked(tree)
+    yield from check_calls(tree)
 
 
 class Package(unittest.TestCase):
@@ -238,6 +291,14 @@ class Checks(unittest.TestCase):
             ("L15", "A = 1\nA = 2\n"),
             ("L15", "class Box:\n    pass\n\n\ndef f(Box):\n    return Box\n"),
             ("L17", "# of this type\n"),
+            ("L6", "def f(a):\n    b, c = a\n    return b + c\n"),
+            ("L19", "def f(a):\n    try:\n        return a[0]\n    except TypeError:\n        return None\n"),
+            ("L19", "def f(a):\n    raise a\n"),
+            ("L22", "def f(a):\n    return [len, a]\n"),
+            ("L22", "def f(a):\n    return int(a, base=2)\n"),
+            ("L23", "def f(a):\n    return reversed(range(a))\n"),
+            ("L23", "def f(a):\n    b = a.items()\n    return b\n"),
+            ("L24", "def f(a):\n    b = set(a)\n    return b\n"),
             ("L20", "def f(a, b):\n    return a is b\n"),
             ("L25", "def f(a):\n    return a.casefold()\n"),
             ("L26", "def f(a):\n    a.args = 1\n"),
