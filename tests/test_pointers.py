@@ -55,6 +55,12 @@ class Parts(unittest.TestCase):
             self.assertIsInstance(caught.exception, GlassError)
             self.assertEqual(handed, signs(words))
 
+    # A pointer is a list of characters, so numbers that are none make none.
+    def test_numbers_that_are_no_characters(self):
+        for number in (-1, 55296, 57343, 1114112):
+            for numbers in ([number], [47, number], [47, 97, 47, number], [47, 126, number]):
+                self.assertRaises(NoPointer, parts, numbers)
+
     def test_every_short_one(self):
         for size in range(6):
             for chosen in itertools.product("/~01a", repeat=size):
